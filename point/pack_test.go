@@ -67,7 +67,7 @@ func TestK1Bytes(t *testing.T) {
 		"objects": {
 			api.State{Cursor: -1, Last: -1, Objects: []api.Object{
 				object(2, file("a"), at(0, 1)),
-				{Id: 0x012345, Chunks: []api.Chunk{piece(api.MaxChunk, at(4095, 255), 2048), {Chunk: api.MaxChunk}}[:1]},
+				{Id: 0x012345, Chunks: []api.Chunk{piece(api.MaxChunk, at(4095, 255), 2048)}},
 				object(api.MaxObject, api.Node{Type: 3, Parent: 2, Name: "ln", Mode: 4095, Stamp: 1 << 63, Target: "/x"}, at(0x0201, 3), piece(0, at(1, 2), 256), piece(7, at(0, 0), 0)),
 			}},
 			"0000000000000000 0000000000000000 00000000 00000000 00000000 03000000" +

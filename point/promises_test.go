@@ -240,7 +240,6 @@ func TestP9AndP11(t *testing.T) {
 // K6: what is told is new memory; a log's state is not changed by a Save that writes nothing.
 func TestK6Memory(t *testing.T) {
 	x := newShelf(t)
-	x.state.Objects[0].Chunks = nil
 	c := x.chip(t)
 	one := restored(t, "once", c, true)
 	one.Blocks[0].Live, one.Objects[0].Id = 77, 77

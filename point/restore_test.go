@@ -47,7 +47,6 @@ func layAll(t *testing.T, c *chip.Chip, list ...sheet) {
 // shelf is a chip with a checkpoint of three parts, of which each thing can be spoilt ahead of its being laid down.
 type shelf struct {
 	state api.State
-	bytes []byte // of the state, if nothing else is said
 	heads []sheet
 	parts []sheet
 	rest  []sheet
@@ -168,7 +167,6 @@ func TestK4NewestBlock(t *testing.T) {
 	// Of two heads of one serial the last one is the newest.
 	s := newShelf(t)
 	s.heads[1].tags.Serial = 11
-	s.state.Blocks[1].Head = 11
 	if got := restored(t, "a head of the same serial ahead", s.chip(t), true); got.Blocks[1].Head != 11 || got.Cursor != 2 {
 		t.Errorf("Restore: %v", got)
 	}

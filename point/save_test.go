@@ -9,7 +9,7 @@ import (
 	"shale/scan"
 )
 
-// K2: what becomes of each block; there is an unlinked object with a header and a chunk in each of two blocks.
+// K2: what becomes of each block; an unlinked object has its header in another one, and so many chunks in it.
 func TestK2Blocks(t *testing.T) {
 	for what, x := range map[string]struct {
 		block api.Block
