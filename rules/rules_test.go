@@ -32,7 +32,7 @@ func layers() map[string]string {
 		"log":     "api chip leaf node object blocks",
 		"scan":    "api chip leaf object",
 		"point":   "api words chip leaf log scan node",
-		"volume":  "api chip log point scan",
+		"volume":  "api chip log point scan node", // node: its chapter has headers looked at and packed by it
 		"path":    "api node",
 		"files":   "api chip scan volume path",
 		"parcel":  "api words path files",
