@@ -39,9 +39,7 @@ func objectFindings(objects []api.Object) []api.Finding {
 func reachable(objects []api.Object) map[int]struct{} {
 	below := map[int][]api.Object{}
 	for _, o := range objects {
-		if o.Head && o.Node.Parent != 0 {
-			below[o.Node.Parent] = append(below[o.Node.Parent], o)
-		}
+		below[o.Node.Parent] = append(below[o.Node.Parent], o) // what is loose has the parent 0, to which nothing leads
 	}
 	reached := map[int]struct{}{}
 	directories := []int{api.Root}

@@ -316,7 +316,7 @@ func someData(r *rand.Rand) []byte {
 func someLeaf(r *rand.Rand, p string) api.Leaf {
 	l := api.Leaf{Path: p, Type: 1 + r.Intn(3), Mode: r.Intn(4096)}
 	if r.Intn(2) == 0 {
-		l.Stamp = r.Uint64() >> (8 * r.Intn(8))
+		l.Stamp = r.Uint64() >> r.Intn(64)
 	}
 	switch l.Type {
 	case api.TypeFile:
